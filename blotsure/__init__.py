@@ -1,0 +1,1 @@
+"""Blotsure: dot letters that stay readable under blots."""

@@ -1,0 +1,158 @@
+"""Looks at the package's own files: whether they keep to the part of Python that the program is held to.
+
+Not every rule can be seen from outside; these are the ones that a look at the written code can tell.
+"""
+
+import ast
+import builtins
+import pathlib
+import re
+import unittest
+
+PACKAGE = pathlib.Path(__file__).resolve().parent.parent / "blotsure"
+
+BUILT_IN = set(
+    "len range enumerate zip min max sum abs sorted reversed int str bool list tuple dict set frozenset"
+    " isinstance ord repr any all divmod Exception ValueError TypeError KeyError IndexError LookupError"
+    " ZeroDivisionError ArithmeticError OverflowError RuntimeError NotImplementedError AttributeError"
+    " StopIteration".split()
+)
+METHODS = set(
+    "append clear copy count endswith extend find get index insert isalnum isalpha isdigit islower isspace"
+    " isupper items join keys ljust lower lstrip partition pop remove replace reverse rfind rjust rpartition"
+    " rsplit rstrip setdefault split splitlines startswith strip update upper values zfill bit_length".split()
+)
+OUT_OF_THE_LANGUAGE = (
+    ast.With, ast.Match, ast.Delete, ast.Global, ast.Nonlocal, ast.Assert, ast.Yield, ast.YieldFrom, ast.Await,
+    ast.AsyncFunctionDef, ast.AsyncFor, ast.AsyncWith, ast.SetComp, ast.DictComp, ast.GeneratorExp,
+    ast.NamedExpr, ast.Starred, ast.Div, ast.MatMult, ast.Import, ast.AnnAssign,
+)
+WORDS = re.compile(
+    r"\b(type|typing|typing_extensions|enum|Enum|IntEnum|StrEnum|Flag|IntFlag|Generic|Protocol|ABC|ABCMeta"
+    r"|namedtuple|NamedTuple|TypedDict|TYPE_CHECKING|abstractmethod)\b|dataclass|overload|contextmanager"
+)
+PLAIN_NAME = re.compile(r"[A-Za-z][A-Za-z0-9_]*")
+DOUBLE = {"__init__", "__eq__", "__repr__", "__str__", "__len__"}
+
+
+def faults_of_text(text):
+    faults = []
+    for number, line in enumerate(text.split("\n"), start=1):
+        if len(line) > 120:
+            faults.append(f"L10 line {number} is too long")
+        if re.search(r"[^ -~]", line):
+            faults.append(f"L14 line {number} has another sign")
+        if WORDS.search(line):
+            faults.append(f"L17 line {number} has a word that stands nowhere")
+    if text.count("\n") > 400:
+        faults.append("L10 the file is too long")
+    return faults
+
+
+def names_bound(node):
+    if isinstance(node, (ast.FunctionDef, ast.ClassDef)):
+        return [node.name]
+    if isinstance(node, ast.arg):
+        return [node.arg]
+    if isinstance(node, ast.Name) and isinstance(node.ctx, ast.Store):
+        return [node.id]
+    return []
+
+
+def fault_of_node(node, own):
+    for name in names_bound(node):
+        if hasattr(builtins, name):
+            return "L15 a name of Python's own is bound"
+        if not PLAIN_NAME.fullmatch(name) and name not in DOUBLE:
+            return "L12 a name is not plain"
+    if isinstance(node, OUT_OF_THE_LANGUAGE):
+        return "L6, L7 or L16 does not know this"
+    if isinstance(node, ast.Name) and hasattr(builtins, node.id) and node.id not in BUILT_IN:
+        return "L8 does not list this name"
+    if isinstance(node, ast.Attribute) and node.attr not in METHODS | own:
+        return "L25 does not list this method"
+    if isinstance(node, ast.ImportFrom) and (node.level or not node.module.startswith("blotsure.")):
+        return "L2 imports the package's own alone"
+    if isinstance(node, ast.FunctionDef) and node.end_lineno - node.lineno + 1 > 40:
+        return "L10 the function is too long"
+    if isinstance(node, (ast.FunctionDef, ast.ClassDef)) and node.decorator_list:
+        return "L4 and L5 have no decorator"
+    if isinstance(node, (ast.For, ast.While)) and node.orelse:
+        return "L6 has no else behind a loop"
+    if isinstance(node, ast.Try) and node.finalbody:
+        return "L6 has no finally"
+    if isinstance(node, ast.Assign) and len(node.targets) > 1:
+        return "L6 has one target"
+    if isinstance(node, ast.Constant) and isinstance(node.value, (float, complex, bytes)):
+        return "L7 does not know this value"
+    return fault_of_form(node)
+
+
+def fault_of_form(node):
+    if isinstance(node, ast.ListComp) and (len(node.generators) > 1 or len(node.generators[0].ifs) > 1):
+        return "L7 has one for and at most one if"
+    if isinstance(node, ast.FormattedValue) and not isinstance(node.value, ast.Name):
+        return "L7 has plain names in f-strings"
+    if isinstance(node, ast.Compare) and any(isinstance(op, (ast.Is, ast.IsNot)) for op in node.ops):
+        sides = [node.left] + node.comparators
+        if not any(isinstance(side, ast.Constant) and side.value in (None, True, False) for side in sides):
+            return "L20 has `is` beside None, True and False alone"
+    if isinstance(node, ast.Constant) and isinstance(node.value, str) and "%" in node.value:
+        return "L27 has no such sign in a text"
+    if isinstance(node, ast.BinOp) and isinstance(node.op, ast.Pow) and not isinstance(node.right, ast.Constant):
+        return "L27 has written exponents"
+    return None
+
+
+def own_attributes(tree):
+    """What the classes of a file have of their own: their methods, and the values given to self."""
+    own = set()
+    for node in ast.walk(tree):
+        if isinstance(node, ast.Attribute) and isinstance(node.ctx, ast.Store):
+            own.add(node.attr)
+        if isinstance(node, ast.ClassDef):
+            own.update(part.name for part in node.body if isinstance(part, ast.FunctionDef))
+    return own
+
+
+def faults_of_tree(tree, own):
+    faults = []
+    for node in ast.walk(tree):
+        fault = fault_of_node(node, own)
+        if fault is not None:
+            faults.append(f"{fault}, line {node.lineno if hasattr(node, 'lineno') else 'unknown'}")
+    return faults
+
+
+def faults_of(text):
+    tree = ast.parse(text)
+    return faults_of_text(text) + faults_of_tree(tree, own_attributes(tree) | {"__init__"})
+
+
+class LanguageTest(unittest.TestCase):
+    def files(self):
+        return sorted(path for path in PACKAGE.rglob("*") if "__pycache__" not in path.parts)
+
+    def test_only_plain_files_lie_in_the_package(self):
+        names = [path.name for path in self.files()]
+        self.assertIn("__init__.py", names)
+        for name in names:
+            self.assertRegex(name, r"\A(__init__|__main__|[a-z][a-z0-9_]*)\.py\Z")
+
+    def test_each_file_keeps_to_the_rules(self):
+        for path in self.files():
+            self.assertEqual(faults_of(path.read_text(encoding="utf-8")), [], path.name)
+
+    def test_the_look_sees_what_it_looks_for(self):
+        for text in (
+            "import sys\n", "from os import path\n", "x = 1.5\n", "x = 1 / 2\n", "x = y = 1\n", "x = '%'\n",
+            "def f():\n    yield 1\n", "def f(n):\n    return 2 ** n\n", "def f(a, b):\n    return a is b\n",
+            "def f(id):\n    return 1\n", "def _f():\n    return 1\n", "x = bin(3)\n", "x = chr(3)\n",
+            "def f(xs):\n    xs.sort()\n", "# a type\n", "x = 1\t\n", "x = 'a" + "a" * 120 + "'\n",
+            "x = '\u00e9'\n", "def f(xs):\n    return sum(x for x in xs)\n", "def f():\n" + "    pass\n" * 40,
+        ):
+            self.assertNotEqual(faults_of(text), [], text)
+
+
+if __name__ == "__main__":
+    unittest.main()
