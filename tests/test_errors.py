@@ -1,11 +1,7 @@
 import unittest
 
 from blotsure import errors
-
-NAMES = (
-    "NotAlike", "OffStrip", "NoSheet", "NoFont", "NoSign", "NoHouse", "NoWords",
-    "TooWide", "NoFiller", "NotTaken", "NoRow", "NoName", "NoNote",
-)
+from helpers import NAMES
 
 
 def class_of(name):

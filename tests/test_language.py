@@ -104,6 +104,88 @@ def fault_of_form(node):
     return None
 
 
+WALKED = {"zip", "enumerate", "reversed", "range"}
+WALKED_METHODS = {"items", "keys", "values"}
+WALKERS = {"list", "tuple", "dict", "sorted", "sum", "any", "all", "enumerate", "zip"}
+
+
+def name_called(node):
+    if isinstance(node, ast.Call) and isinstance(node.func, ast.Name):
+        return node.func.id
+    return None
+
+
+def is_walk(node):
+    if isinstance(node, ast.Call) and isinstance(node.func, ast.Attribute):
+        return node.func.attr in WALKED_METHODS
+    return name_called(node) in WALKED
+
+
+def walked_at_once(node):
+    """What stands straight in this node where a walk may stand."""
+    if isinstance(node, (ast.For, ast.comprehension)):
+        return [node.iter]
+    if name_called(node) in WALKERS or name_called(node) in ("min", "max") and len(node.args) == 1:
+        return node.args[:1]
+    if isinstance(node, ast.Call) and isinstance(node.func, ast.Attribute) and node.func.attr == "join":
+        return node.args[:1]
+    return []
+
+
+def set_on_the_spot(node):
+    """What stands straight in this node where a set may stand."""
+    if isinstance(node, ast.Compare) and isinstance(node.ops[0], (ast.In, ast.NotIn, ast.Eq, ast.NotEq)):
+        return [node.left] + node.comparators
+    if name_called(node) in ("sorted", "len") and not node.keywords:
+        return node.args[:1]
+    if isinstance(node, ast.BinOp):
+        return [node.left, node.right]
+    return []
+
+
+def faults_of_places(tree):
+    nodes = list(ast.walk(tree))
+    walks = [id(part) for node in nodes for part in walked_at_once(node)]
+    sets = [id(part) for node in nodes for part in set_on_the_spot(node)]
+    faults = []
+    for node in nodes:
+        if is_walk(node) and id(node) not in walks:
+            faults.append(f"L23 is not walked on the spot, line {node.lineno}")
+        if (name_called(node) == "set" or isinstance(node, ast.Set)) and id(node) not in sets:
+            faults.append(f"L24 a set is kept or walked, line {node.lineno}")
+        if isinstance(node, ast.arguments) and (node.vararg or node.kwarg or node.kwonlyargs or node.posonlyargs):
+            faults.append("L4 has plain parameters")
+        if isinstance(node, ast.ExceptHandler):
+            taken = [] if node.type is None else [part.id for part in ast.walk(node.type) if isinstance(part, ast.Name)]
+            if not taken or set(taken) & {"Exception", "TypeError"}:
+                faults.append(f"L19 does not take this, line {node.lineno}")
+    return faults
+
+
+def imports_of(tree):
+    """The pairs (module, name) that a file imports."""
+    rows = [node for node in tree.body if isinstance(node, ast.ImportFrom)]
+    return [(row.module, part.name) for row in rows for part in row.names]
+
+
+def faults_of_locals(tree):
+    taken = {name for _, name in imports_of(tree)}
+    taken |= {node.name for node in tree.body if isinstance(node, ast.ClassDef)}
+    faults = []
+    for top in tree.body:
+        for node in ast.walk(top):
+            if isinstance(node, (ast.arg, ast.Name)) and set(names_bound(node)) & taken:
+                faults.append(f"L15 a local is called like an import or a class, line {node.lineno}")
+    return faults
+
+
+def names_at_the_top(tree):
+    names = []
+    for node in tree.body:
+        names.extend(name for target in getattr(node, "targets", [node]) for name in names_bound(target))
+    return names
+
+
 def own_attributes(tree):
     """What the classes of a file have of their own: their methods, and the values given to self."""
     own = set()
@@ -126,7 +208,8 @@ def faults_of_tree(tree, own):
 
 def faults_of(text):
     tree = ast.parse(text)
-    return faults_of_text(text) + faults_of_tree(tree, own_attributes(tree) | {"__init__"})
+    faults = faults_of_tree(tree, own_attributes(tree) | {"__init__"})
+    return faults_of_text(text) + faults + faults_of_places(tree) + faults_of_locals(tree)
 
 
 class LanguageTest(unittest.TestCase):
@@ -143,6 +226,29 @@ class LanguageTest(unittest.TestCase):
         for path in self.files():
             self.assertEqual(faults_of(path.read_text(encoding="utf-8")), [], path.name)
 
+    def trees(self):
+        return {f"blotsure.{path.stem}": ast.parse(path.read_text(encoding="utf-8")) for path in self.files()}
+
+    def test_each_name_is_bound_once_at_the_top(self):
+        for module, tree in self.trees().items():
+            names = names_at_the_top(tree) + [name for _, name in imports_of(tree)]
+            self.assertEqual(sorted(names), sorted(set(names)), module)
+
+    def test_each_import_is_from_the_very_file_and_used(self):
+        trees = self.trees()
+        for tree in trees.values():
+            used = {node.id for node in ast.walk(tree) if isinstance(node, ast.Name)}
+            for module, name in imports_of(tree):
+                self.assertIn(name, names_at_the_top(trees[module]))
+                self.assertIn(name, used)
+
+    def test_no_two_files_draw_from_one_another(self):
+        left = {module: {drawn for drawn, _ in imports_of(tree)} for module, tree in self.trees().items()}
+        while left:
+            done = [module for module, drawn in left.items() if not drawn & set(left)]
+            self.assertNotEqual(done, [], left)
+            left = {module: drawn for module, drawn in left.items() if module not in done}
+
     def test_the_look_sees_what_it_looks_for(self):
         for text in (
             "import sys\n", "from os import path\n", "x = 1.5\n", "x = 1 / 2\n", "x = y = 1\n", "x = '%'\n",
@@ -150,8 +256,22 @@ class LanguageTest(unittest.TestCase):
             "def f(id):\n    return 1\n", "def _f():\n    return 1\n", "x = bin(3)\n", "x = chr(3)\n",
             "def f(xs):\n    xs.sort()\n", "# a type\n", "x = 1\t\n", "x = 'a" + "a" * 120 + "'\n",
             "x = '\u00e9'\n", "def f(xs):\n    return sum(x for x in xs)\n", "def f():\n" + "    pass\n" * 40,
+            "def f(n):\n    return reversed(range(n))\n", "def f(n):\n    xs = range(n)\n    return list(xs)\n",
+            "def f(d):\n    xs = d.items()\n    return 1\n", "def f(xs):\n    ys = set(xs)\n    return len(ys)\n",
+            "def f(xs):\n    return [x for x in set(xs)]\n", "def f(*xs):\n    return 1\n",
+            "def f(x):\n    try:\n        return x()\n    except Exception:\n        return 1\n",
+            "from blotsure.dots import inked\n\ndef f(inked):\n    return inked\n",
         ):
             self.assertNotEqual(faults_of(text), [], text)
+
+    def test_the_look_lets_pass_what_is_in_the_language(self):
+        for text in (
+            "def f(n):\n    return [x for x in range(n)]\n", "def f(xs):\n    return list(reversed(xs))\n",
+            "def f(d):\n    return tuple(sorted(d.items()))\n", "def f(xs):\n    return len(set(xs))\n",
+            "def f(xs, ys):\n    return set(xs) == set(ys)\n", "def f(xs, ys):\n    return sorted(set(xs) - set(ys))\n",
+            "def f(x):\n    try:\n        return x()\n    except KeyError:\n        return 1\n",
+        ):
+            self.assertEqual(faults_of(text), [], text)
 
 
 if __name__ == "__main__":
