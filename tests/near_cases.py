@@ -94,6 +94,8 @@ def cases():
         yield ONE_WIDE, free("w"), drawn_strip(draw, ONE_WIDE, wide)
 
 
-def without_doors(house, lacking):
-    doors = [[(sign, room) for sign, room in pairs if sign not in lacking] for pairs in house[0]]
+def fewer_doors(font, house):
+    """The house without the doors whose signs the font lacks."""
+    signs = {sign for sign, _ in font[1]}
+    doors = [[(sign, room) for sign, room in pairs if sign in signs] for pairs in house[0]]
     return make_house(doors, list(house[1]))

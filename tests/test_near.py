@@ -9,8 +9,8 @@ from blotsure.setting import set_text
 from blotsure.strips import gap, turned
 from helpers import Draw
 from near_cases import (
-    FONT, FONTS, HOUSES, NARROW, ODD, ONE_WIDE, cases, drawn_strip, nearest_by_writing, paper_by_writing,
-    without_doors,
+    FONT, FONTS, HOUSES, NARROW, ODD, ONE_WIDE, cases, drawn_strip, fewer_doors, nearest_by_writing,
+    paper_by_writing,
 )
 
 LARGE = make_font(60, [(sign, [2 ** place, 2 ** 59 + 2 ** (20 + place)]) for place, sign in enumerate("abcdefghij")])
@@ -90,8 +90,7 @@ class NearPaperTest(unittest.TestCase):
         lacking = make_house([[("q", 1), ("a", 0)], [("a", 1)]], [1])
         self.assertEqual(near_paper(NARROW, lacking, [0, 0]), [[None, (0, 1)]] * 2 + [[None, (0, 1)]])
         for font, house, strip in cases():
-            signs = {sign for sign, _ in font[1]}
-            fewer = without_doors(house, {sign for pairs in house[0] for sign, _ in pairs} - signs)
+            fewer = fewer_doors(font, house)
             self.assertEqual(near_paper(font, house, strip), near_paper(font, fewer, strip))
 
     def test_each_row_is_a_list_of_its_own(self):
@@ -195,8 +194,7 @@ class NearestTest(unittest.TestCase):
         self.assertIsNone(nearest(NARROW, book(["qa", "aq"]), [0, 0]))
         self.assertEqual(nearest(NARROW, book(["qa", "aq", "cc"]), [0, 0]), ("cc", 4, 1))
         for font, house, strip in cases():
-            signs = {sign for sign, _ in font[1]}
-            fewer = without_doors(house, {sign for pairs in house[0] for sign, _ in pairs} - signs)
+            fewer = fewer_doors(font, house)
             self.assertEqual(nearest(font, house, strip), nearest(font, fewer, strip))
 
     def test_the_text_is_allowed_and_lies_as_far_as_told(self):

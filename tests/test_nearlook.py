@@ -7,7 +7,7 @@ from blotsure.makers import book, free, sums
 from blotsure.near import near_paper
 from blotsure.nearlook import near_holds
 from helpers import VERY_FAR, Draw
-from near_cases import FONT, NARROW, ODD, cases, drawn_strip, paper_by_writing, without_doors
+from near_cases import FONT, NARROW, ODD, cases, drawn_strip, fewer_doors, paper_by_writing
 
 SMALL = (
     (FONT, ODD, [1, 6, 5, 2, 0, 7]), (NARROW, sums("abc", 3), [0, 3, 1]), (FONT, free("aAb"), [1]),
@@ -143,8 +143,7 @@ class NearHoldsTest(unittest.TestCase):
         self.assertIs(near_holds(NARROW, house, [0], [[None, (0, 1)], [None, (0, 1)]]), True)
         self.assertIs(near_holds(NARROW, house, [0], [[(0, 1), (0, 1)], [None, (0, 1)]]), False)
         for font, full, strip in cases():
-            signs = {sign for sign, _ in font[1]}
-            fewer = without_doors(full, {sign for pairs in full[0] for sign, _ in pairs} - signs)
+            fewer = fewer_doors(font, full)
             self.assertIs(near_holds(font, full, strip, near_paper(font, fewer, strip)), True)
 
     def test_what_is_handed_in_stays_and_is_not_kept(self):
