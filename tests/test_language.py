@@ -61,7 +61,7 @@ def names_bound(node):
 
 def fault_of_node(node, own):
     for name in names_bound(node):
-        if hasattr(builtins, name):
+        if hasattr(builtins, name) and name not in DOUBLE:
             return "L15 a name of Python's own is bound"
         if not PLAIN_NAME.fullmatch(name) and name not in DOUBLE:
             return "L12 a name is not plain"
@@ -186,6 +186,32 @@ def names_at_the_top(tree):
     return names
 
 
+def is_plain(value, functions):
+    """A value for a file's top: numbers, texts, truths, None, functions above, and lists, tuples and dicts of these."""
+    if isinstance(value, ast.Dict):
+        return all(is_plain(part, functions) for part in value.keys + value.values)
+    if isinstance(value, (ast.List, ast.Tuple)):
+        return all(is_plain(part, functions) for part in value.elts)
+    return isinstance(value, ast.Constant) or isinstance(value, ast.Name) and value.id in functions
+
+
+def faults_of_top(tree):
+    faults = []
+    functions = []
+    for place, node in enumerate(tree.body):
+        if isinstance(node, ast.FunctionDef):
+            functions.append(node.name)
+        elif isinstance(node, ast.ClassDef):
+            if not all(isinstance(part, (ast.FunctionDef, ast.Pass)) for part in node.body) or len(node.bases) > 1:
+                faults.append(f"L5 has methods and one base alone, line {node.lineno}")
+        elif isinstance(node, ast.Assign):
+            if not is_plain(node.value, functions):
+                faults.append(f"L3 has plain values at the top, line {node.lineno}")
+        elif not isinstance(node, ast.ImportFrom) and not (place == 0 and ast.get_docstring(tree) is not None):
+            faults.append(f"L3 does not have this at the top, line {node.lineno}")
+    return faults
+
+
 def own_attributes(tree):
     """What the classes of a file have of their own: their methods, and the values given to self."""
     own = set()
@@ -209,7 +235,7 @@ def faults_of_tree(tree, own):
 def faults_of(text):
     tree = ast.parse(text)
     faults = faults_of_tree(tree, own_attributes(tree) | {"__init__"})
-    return faults_of_text(text) + faults + faults_of_places(tree) + faults_of_locals(tree)
+    return faults_of_text(text) + faults + faults_of_places(tree) + faults_of_locals(tree) + faults_of_top(tree)
 
 
 class LanguageTest(unittest.TestCase):
@@ -261,6 +287,8 @@ class LanguageTest(unittest.TestCase):
             "def f(xs):\n    return [x for x in set(xs)]\n", "def f(*xs):\n    return 1\n",
             "def f(x):\n    try:\n        return x()\n    except Exception:\n        return 1\n",
             "from blotsure.dots import inked\n\ndef f(inked):\n    return inked\n",
+            "x = len('a')\n", "x = [y for y in (1, 2)]\n", "x = (f, 1)\n\ndef f():\n    return 1\n",
+            "for x in (1, 2):\n    pass\n", "class A:\n    x = 1\n", "class A(ValueError, KeyError):\n    pass\n",
         ):
             self.assertNotEqual(faults_of(text), [], text)
 
@@ -270,6 +298,8 @@ class LanguageTest(unittest.TestCase):
             "def f(d):\n    return tuple(sorted(d.items()))\n", "def f(xs):\n    return len(set(xs))\n",
             "def f(xs, ys):\n    return set(xs) == set(ys)\n", "def f(xs, ys):\n    return sorted(set(xs) - set(ys))\n",
             "def f(x):\n    try:\n        return x()\n    except KeyError:\n        return 1\n",
+            "def f():\n    return 1\n\nX = {'a': (1, True, f), 'b': (2, None, f)}\n", "'A file.'\n\nX = (1, 'a')\n",
+            "class A:\n    def __init__(self):\n        self.b = {}\n\n    def c(self):\n        return self.b\n",
         ):
             self.assertEqual(faults_of(text), [], text)
 
